@@ -1,0 +1,1 @@
+"""Bikestands: what counts at stands tell of bikes that come back elsewhere."""
