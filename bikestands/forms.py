@@ -1,5 +1,6 @@
 """The forms of integers, names, asks and facts, and what their words tell."""
 
+from bikestands.errors import InvalidAsk
 from bikestands.limits import MOST_NUMBER
 
 DIGITS = "0123456789"
@@ -87,6 +88,36 @@ def read_ask(town, value):
     if not isinstance(value, str):
         return None
     return read_ask_words(town, value.split(" "))
+
+
+def asked(town, value):
+    """The ask, as `read_ask` tells it; raises InvalidAsk if it is none of the town."""
+    ask = read_ask(town, value)
+    if ask is None:
+        raise InvalidAsk(value)
+    return ask
+
+
+def plain_asks(town, ask):
+    """The plain asks, told as `read_ask` tells them, whose values together are that of the ask."""
+    first, *rest = ask
+    slots = range(town.slots)
+    if first == "way":
+        return [
+            ("rides", start, end, slot)
+            for start, end, time in town.roads for slot in slots if slot < rest[0] < slot + time
+        ]
+    if first == "road":
+        return [("rides", *rest, slot) for slot in slots]
+    if first == "from":
+        return [("left", *rest, slot) for slot in slots]
+    if first == "to":
+        return [("came", *rest, slot) for slot in slots]
+    if first == "all" and rest == ["vans"]:
+        return [("van", slot) for slot in slots]
+    if first == "all":
+        return [("left", name, slot) for name in town.names for slot in slots]
+    return [ask]
 
 
 def read_bounds(words):

@@ -1,6 +1,6 @@
 """Towns: their slots, their stands with sizes, and the roads between them."""
 
-from bikestands.errors import InvalidRoads, InvalidSlots, InvalidStands, InvalidText
+from bikestands.errors import InvalidRoads, InvalidSlots, InvalidStands, InvalidText, NotATown
 from bikestands.forms import is_name, is_number, read_ask, read_fact, read_number
 from bikestands.limits import MOST_NUMBER, MOST_ROADS, MOST_SIZE, MOST_SLOTS, MOST_STANDS, MOST_TIME
 
@@ -48,6 +48,12 @@ def check_roads(names, roads):
         if index == MOST_ROADS or not is_road(names, road) or road[:2] in pairs:
             raise InvalidRoads(index)
         pairs.append(road[:2])
+
+
+def check_town(value):
+    """Raises NotATown if this is no town."""
+    if not isinstance(value, Town):
+        raise NotATown(value)
 
 
 def read_row(words):
@@ -123,10 +129,9 @@ class Town:
         )
 
     def __str__(self):
-        slots = f"slots {self._slots}"
         stands = [f"stand {name} {size}" for name, size in self._stands]
         roads = [f"road {start} {end} {time}" for start, end, time in self._roads]
-        return "\n".join([slots, *stands, *roads])
+        return "\n".join([f"slots {self._slots}", *stands, *roads])
 
     def __repr__(self):
         return f"Town of {len(self._stands)} stands"

@@ -1,5 +1,6 @@
 """Values for the tests: towns and their asks, and values that are none of what is asked for."""
 
+from bikestands.logs import Log
 from bikestands.towns import Town
 
 STANDS = (("hill", 4), ("port", 3))
@@ -92,3 +93,53 @@ def edits(text, letters):
         for letter in letters:
             if letter != text[at]:
                 yield text[:at] + letter + text[at + 1:]
+
+
+FACTS = (
+    "count hill 0 is 3", "count port 0 is 1", "count hill 1 is 1", "count port 2 is 3", "van 0 is 0", "van 1 is 0",
+)
+
+
+def make_log():
+    return Log(make_town(), FACTS)
+
+
+def make_slow():
+    """A log in which a van must have moved a bike."""
+    return Log(make_town(), ("count hill 0 is 1", "count port 0 is 3", "count hill 1 is 2", "count port 1 is 2"))
+
+
+def make_impossible():
+    return make_slow().with_fact("van 0 is 0")
+
+
+def no_towns():
+    others = [value for value in no_tuples() if not isinstance(value, Town)]
+    return [*others, (), TEXT, (2, STANDS, ROADS), (make_town(),), make_log()]
+
+
+def no_logs():
+    return [*no_tuples(), (), FACTS, (make_town(), FACTS), str(make_log()), (make_log(),)]
+
+
+def no_asks():
+    """Values that are no asks of the town."""
+    return [
+        *no_strings(), (), ("bikes",), ("count", "hill", 0), "", "bike", "bikes ", "count hill 3", "count hall 0",
+        "left hill 2", "rides hill hill 0", "road port port", "way 3", "all", "bikes is 3",
+    ]
+
+
+def no_facts():
+    """Values that are no facts of the town."""
+    return [
+        *no_strings(), (), ("bikes is 3",), ("bikes", "is", 3), "", "bikes", "bikes is", "bikes is 10000",
+        "bikes is 03", "bikes from 3 to 2", "bikes is 3 ", "count hill 3 is 0", "count hall 0 is 0", "van 2 is 0",
+        "rides hill hill 0 is 0", "all rides is 3", "way 1 is 0", "bikes is 3\nbikes is 3", "slots 2", "stand a 1",
+    ]
+
+
+def no_places(many):
+    """Values that are no indexes of so many facts."""
+    kinds = [value for value in no_tuples() if isinstance(value, bool) or not isinstance(value, int)]
+    return [*kinds, (), (0,), "0", -1, -many, many, many + 1, -10 ** 44, 10 ** 44]

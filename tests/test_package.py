@@ -6,10 +6,23 @@ import inspect
 import pathlib
 import unittest
 
-from bikestands import errors, towns
+from bikestands import errors, logs, towns
 
 FOLDER = pathlib.Path(towns.__file__).parent
 FILES = sorted(FOLDER.glob("*.py"))
+# For each file of the interface that has functions: their names and parameters.
+FUNCTIONS = {
+    "records": {
+        "is_record": ("town", "value"), "contents": ("town", "record"), "value": ("town", "record", "ask"),
+        "holds": ("town", "record", "fact"), "fits": ("log", "record"),
+    },
+    "ranges": {
+        "possible": ("log",), "some_record": ("log",), "ask_range": ("log", "ask"),
+        "end_record": ("log", "ask", "word"), "surely": ("log", "ask"), "fewest_vans": ("log",),
+        "surely_full": ("log",), "surely_empty": ("log",), "surely_moved": ("log",), "profile": ("log", "name"),
+    },
+    "wrongs": {"wrongs": ("log",), "adds": ("log", "index"), "spare": ("log",)},
+}
 
 
 class Interface(unittest.TestCase):
@@ -34,6 +47,34 @@ class Interface(unittest.TestCase):
             self.assertIsInstance(own[name], property)
         for name in ("__init__", "__eq__", "__str__", "__repr__"):
             self.assertIn(name, own)
+
+    def test_log(self):
+        self.assertEqual(logs.Log.__module__, "bikestands.logs")
+        self.assert_parameters(logs.Log, ("town", "facts"))
+        self.assertEqual(inspect.signature(logs.Log).parameters["facts"].default, ())
+
+    def test_methods_and_properties_of_logs_stand_in_the_class_itself(self):
+        own = vars(logs.Log)
+        self.assertIsInstance(own["read"], classmethod)
+        self.assert_parameters(logs.Log.read, ("text",))
+        self.assert_parameters(own["bounds"], ("self", "index"))
+        self.assert_parameters(own["with_fact"], ("self", "fact"))
+        self.assert_parameters(own["without"], ("self", "index"))
+        for name in ("town", "facts"):
+            self.assertIsInstance(own[name], property)
+        for name in ("__init__", "__eq__", "__len__", "__bool__", "__str__", "__repr__"):
+            self.assertIn(name, own)
+
+    def test_functions(self):
+        for file, functions in FUNCTIONS.items():
+            module = importlib.import_module(f"bikestands.{file}")
+            for name, parameters in functions.items():
+                function = getattr(module, name)
+                self.assertTrue(inspect.isfunction(function))
+                self.assertEqual(function.__module__, f"bikestands.{file}")
+                self.assert_parameters(function, parameters)
+                for parameter in inspect.signature(function).parameters.values():
+                    self.assertIs(parameter.default, inspect.Parameter.empty)
 
     def test_errors_are_defined_in_their_file(self):
         for value in vars(errors).values():
@@ -63,7 +104,7 @@ class Rules(unittest.TestCase):
         for path in FILES:
             for node in ast.walk(ast.parse(path.read_text())):
                 self.assertNotIsInstance(node, ast.Import, path.name)
-                if isinstance(node, ast.ImportFrom):
+                if isinstance(node, ast.ImportFrom) and node.module != "heapq":
                     self.assertEqual(node.level, 0)
                     self.assertTrue(node.module.startswith("bikestands."), node.module)
                     bound = top_names(FOLDER / (node.module.split(".")[1] + ".py"))

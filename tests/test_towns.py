@@ -1,7 +1,8 @@
 import unittest
 
-from bikestands.errors import InvalidRoads, InvalidSlots, InvalidStands, NotRight
+from bikestands.errors import InvalidRoads, InvalidSlots, InvalidStands
 from bikestands.towns import Town
+from tests.cases import Case
 from tests.samples import (
     ROADS, STANDS, TEXT, EqualToAll, NeverAsked, make_town, no_names, no_numbers_in, no_strings, no_tuples,
 )
@@ -117,16 +118,9 @@ class Objects(unittest.TestCase):
         self.assertIs(town in (None, make_town()), True)
 
 
-class Wrong(unittest.TestCase):
+class Wrong(Case):
     def assert_error(self, kind, attributes, *arguments, **named):
-        """Looks at the very class, and at the attributes by identity or, for an index, by value."""
-        with self.assertRaises(NotRight) as caught:
-            Town(*arguments, **named)
-        self.assertIs(caught.exception.__class__, kind)
-        self.assertEqual(list(vars(caught.exception)), list(attributes))
-        for name, value in attributes.items():
-            told = getattr(caught.exception, name)
-            self.assertTrue(told is value or (isinstance(value, int) and told == value), (name, told, value))
+        self.assert_raised(kind, attributes, Town, *arguments, **named)
 
     def assert_stands(self, index, stands):
         self.assert_error(InvalidStands, {"index": index}, 1, stands)
