@@ -24,6 +24,19 @@ def can_hold(network, facts):
     return circulation(network, narrowed(network, facts), free, free) is not None
 
 
+def denials(fact):
+    """Facts of which one holds in each record in which this one does not, and none in any other."""
+    ask, (least, most) = fact
+    below = [] if least is None else [(ask, (None, least - 1))]
+    above = [] if most is None else [(ask, (most + 1, None))]
+    return [*below, *above]
+
+
+def can_fail(network, facts, fact):
+    """Whether some record fits these facts, but not this one."""
+    return any([can_hold(network, [*facts, denial]) for denial in denials(fact)])
+
+
 def paired(taken, brought):
     """Rows (from, to, number) that take so many from each name of the one dict and bring so many to each of the other.
 

@@ -32,6 +32,11 @@ def is_number(value, least, most):
     return least <= value <= most
 
 
+def is_whole(value, least):
+    """Whether the value is an integer from the least one on."""
+    return is_number(value, least, value)
+
+
 def is_name(value):
     """Whether the value is a name."""
     if not isinstance(value, str) or not 1 <= len(value) <= MOST_LETTERS:
@@ -88,6 +93,12 @@ def read_ask(town, value):
     if not isinstance(value, str):
         return None
     return read_ask_words(town, value.split(" "))
+
+
+def read_plain(town, value):
+    """The plain ask, as `read_ask` tells it; None if it is no plain ask of the town."""
+    ask = read_ask(town, value)
+    return ask if ask is not None and ask[0] in PLAIN else None
 
 
 def asked(town, value):

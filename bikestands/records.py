@@ -1,14 +1,9 @@
 """Records: which bikes began where, were ridden and were moved by van, and what lay where by that."""
 
 from bikestands.errors import InvalidFact, InvalidRecord
-from bikestands.forms import asked, is_name, is_number, plain_asks, read_fact
+from bikestands.forms import asked, is_name, is_number, is_whole, plain_asks, read_fact
 from bikestands.logs import check_log, told_facts
 from bikestands.towns import check_town
-
-
-def is_whole(value, least):
-    """Whether the value is an integer from the least one on."""
-    return is_number(value, least, value)
 
 
 def is_begun(town, value):

@@ -1,17 +1,13 @@
 """Which facts of a log must be wrong, and which of them tell something that the others do not."""
 
-from bikestands.fitting import can_hold
+from bikestands.fitting import can_fail, can_hold
 from bikestands.logs import check_log, check_place, told_facts
 from bikestands.networks import Network
 
 
 def adds_something(network, facts, index):
     """Whether some record fits the other facts but not the one with this index."""
-    ask, (least, most) = facts[index]
-    others = [*facts[:index], *facts[index + 1:]]
-    if least is not None and can_hold(network, [*others, (ask, (None, least - 1))]):
-        return True
-    return most is not None and can_hold(network, [*others, (ask, (most + 1, None))])
+    return can_fail(network, [*facts[:index], *facts[index + 1:]], facts[index])
 
 
 def adds(log, index):

@@ -6,14 +6,17 @@ import unittest
 
 class Case(unittest.TestCase):
     def assert_raised(self, kind, attributes, function, *arguments, **named):
-        """Looks at the very class, and at the attributes by identity or, for an index, by value."""
+        """Looks at the very class, and at the attributes: at what was given by identity, at others by kind and value."""
         with self.assertRaises(Exception) as caught:
             function(*arguments, **named)
         self.assertIs(caught.exception.__class__, kind, caught.exception)
         self.assertEqual(list(vars(caught.exception)), list(attributes))
         for name, value in attributes.items():
             told = getattr(caught.exception, name)
-            self.assertTrue(told is value or (isinstance(value, int) and told == value), (name, told, value))
+            if name == "given":
+                self.assertIs(told, value)
+            else:
+                self.assertEqual((told.__class__, told), (value.__class__, value), name)
 
     def assert_first_error(self, function, parameters):
         """Looks at the errors with `given` of a function, of which the first one in the order of the signature comes.
@@ -32,3 +35,13 @@ class Case(unittest.TestCase):
                         named = dict(reversed(list(zip(names, arguments))))
                         self.assert_raised(kind, {"given": value}, function, *arguments)
                         self.assert_raised(kind, {"given": value}, function, **named)
+
+    def assert_elements_error(self, function, ahead, names, kind, cases):
+        """Looks at the errors with `index` of a function, told by the last one of these names.
+
+        `ahead` are right values for the names before it; the cases are pairs of a wrong value and an index.
+        """
+        for value, index in cases:
+            arguments = [*ahead, value]
+            self.assert_raised(kind, {"index": index}, function, *arguments)
+            self.assert_raised(kind, {"index": index}, function, **dict(zip(names, arguments)))

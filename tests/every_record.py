@@ -1,11 +1,14 @@
 """All records of a small town, gone through one by one, with the value of every ask in each of them.
 
-This is told from points 6 to 10 of the document alone, and uses nothing of the program but what a town is. The names
+This is told from points 6 to 10 of the document alone, and uses nothing of the program but towns and logs. The names
 of stands in these towns are no words of facts.
 """
 
+import functools
 import itertools
+import random
 
+from bikestands.logs import Log
 from bikestands.towns import Town
 from tests.samples import asks_of
 
@@ -142,6 +145,26 @@ class EveryRecord:
         return (min(numbers), max(numbers))
 
 
+@functools.cache
+def every_small_town():
+    """All records of each of the small towns."""
+    return tuple(EveryRecord(town) for town in small_towns())
+
+
+def plain_asks_of(every):
+    """The asks of the town of which facts can be told."""
+    return [ask for ask in every.asks if every.town.is_fact(f"{ask} is 0")]
+
+
+def random_logs(seed, many_logs, most_facts, offs):
+    """So many logs of each small town, with all records of it and the rows of values of those that fit."""
+    chance = random.Random(seed)
+    for every in every_small_town():
+        for _ in range(many_logs):
+            facts = random_facts(chance, every, chance.randint(0, most_facts), chance.choice(offs))
+            yield every, Log(every.town, facts), every.fitting(facts)
+
+
 def taken_apart(fact):
     """The ask of a fact and its bounds; those that it does not have never matter."""
     for word in (" is ", " least ", " most ", " from "):
@@ -156,19 +179,18 @@ def taken_apart(fact):
     return (ask, least, most)
 
 
-def random_fact(random, ask, number):
+def random_fact(chance, ask, number):
     """A fact about the ask, near this number."""
-    low, high = max(0, number - random.randint(0, 1)), number + random.randint(0, 1)
+    low, high = max(0, number - chance.randint(0, 1)), number + chance.randint(0, 1)
     ends = (f"is {number}", f"from {low} to {high}", f"least {low}", f"most {high}")
-    return f"{ask} {random.choice(ends)}"
+    return f"{ask} {chance.choice(ends)}"
 
 
-def random_facts(random, every, many, off):
+def random_facts(chance, every, many, off):
     """So many facts near a record chosen at random; with a number above 0, up to so far off."""
-    row = random.choice(every.rows)
-    plain = [ask for ask in every.asks if every.town.is_fact(f"{ask} is 0")]
+    row = chance.choice(every.rows)
     facts = []
-    for ask in random.choices(plain, k=many):
-        number = row[every.columns[ask]] + random.randint(-off, off)
-        facts.append(random_fact(random, ask, max(0, number)))
+    for ask in chance.choices(plain_asks_of(every), k=many):
+        number = row[every.columns[ask]] + chance.randint(-off, off)
+        facts.append(random_fact(chance, ask, max(0, number)))
     return tuple(facts)

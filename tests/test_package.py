@@ -6,7 +6,7 @@ import inspect
 import pathlib
 import unittest
 
-from bikestands import errors, logs, towns
+from bikestands import errors, logs, surveys, towns
 
 FOLDER = pathlib.Path(towns.__file__).parent
 FILES = sorted(FOLDER.glob("*.py"))
@@ -22,6 +22,14 @@ FUNCTIONS = {
         "surely_full": ("log",), "surely_empty": ("log",), "surely_moved": ("log",), "profile": ("log", "name"),
     },
     "wrongs": {"wrongs": ("log",), "adds": ("log", "index"), "spare": ("log",)},
+    "readings": {
+        "after": ("log", "ask", "reading"), "best_reading": ("log", "ask", "readings"),
+        "settled": ("log", "ask", "readings"),
+    },
+    "comparing": {
+        "within": ("one", "other"), "alike": ("one", "other"), "joined": ("one", "other"), "apart": ("one", "other"),
+    },
+    "mending": {"kept": ("log", "wish"), "mends": ("log", "wishes", "changes")},
 }
 
 
@@ -63,6 +71,18 @@ class Interface(unittest.TestCase):
         for name in ("town", "facts"):
             self.assertIsInstance(own[name], property)
         for name in ("__init__", "__eq__", "__len__", "__bool__", "__str__", "__repr__"):
+            self.assertIn(name, own)
+
+    def test_survey(self):
+        self.assertEqual(surveys.Survey.__module__, "bikestands.surveys")
+        self.assert_parameters(surveys.Survey, ("town",))
+        own = vars(surveys.Survey)
+        self.assert_parameters(own["tell"], ("self", "fact"))
+        self.assert_parameters(own["ends"], ("self", "ask"))
+        self.assert_parameters(own["undo"], ("self",))
+        for name in ("town", "log", "changes"):
+            self.assertIsInstance(own[name], property)
+        for name in ("__init__", "__len__", "__bool__"):
             self.assertIn(name, own)
 
     def test_functions(self):
