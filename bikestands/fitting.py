@@ -18,6 +18,14 @@ def narrowed(network, facts):
     return list(zip(lows, highs))
 
 
+def priced(network, asks, price):
+    """The price of each arc: this one for those of these plain asks, 0 for all others."""
+    prices = [0] * len(network.caps)
+    for ask in asks:
+        prices[network.places[ask]] = price
+    return prices
+
+
 def can_hold(network, facts):
     """Whether some record fits these facts."""
     free = [0] * len(network.caps)
@@ -67,9 +75,7 @@ class Fitting:
 
     def end_numbers(self, ask, price):
         """How much goes along each arc where the ask has the least value (price 1), or the greatest one (price -1)."""
-        prices = [0] * len(self._limits)
-        for plain in plain_asks(self._town, ask):
-            prices[self._network.places[plain]] = price
+        prices = priced(self._network, plain_asks(self._town, ask), price)
         return circulation(self._network, self._limits, prices, self.numbers)
 
     def value_in(self, numbers, ask):

@@ -44,17 +44,20 @@ def is_name(value):
     return all([letter in LETTERS for letter in value])
 
 
-def read_number(word, most):
-    """The integer from 0 to most that the word tells in digits; None if it tells none."""
-    # The length is looked at first, since Python refuses to read very long numbers.
-    if not 1 <= len(word) <= len(str(most)):
-        return None
-    if not all([digit in DIGITS for digit in word]):
+def read_whole(word):
+    """The integer from 0 on that the word tells in digits; None if it tells none."""
+    if word == "" or not all([digit in DIGITS for digit in word]):
         return None
     if word[0] == "0" and word != "0":
         return None
-    number = int(word)
-    return number if number <= most else None
+    return int(word)
+
+
+def read_number(word, most):
+    """The integer from 0 to most that the word tells in digits; None if it tells none."""
+    # The length is looked at first, since Python refuses to read very long numbers.
+    number = read_whole(word) if len(word) <= len(str(most)) else None
+    return number if number is not None and number <= most else None
 
 
 def has_road(town, start, end):

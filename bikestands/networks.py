@@ -6,6 +6,8 @@ An arc is called by words. Those of a plain ask, as `read_ask` tells it, call th
 # Where bikes come from, and where they end; from the end they go back to the start along the arc ("bikes",).
 START = ("start",)
 END = ("end",)
+# The cap of an arc that has none: all that facts call for, brought along one arc, is less.
+WIDE = 10 ** 6
 
 
 class Network:
@@ -27,16 +29,22 @@ class Network:
         self.edges = []
         for name, size in town.stands:
             self._add_stand(name, size)
-        sizes = dict(town.stands)
         for start, end, time in town.roads:
-            self._add_road(start, end, time, sizes[start])
-        most = sum([size for _, size in town.stands])
+            self._add_road(start, end, time)
         for slot in range(town.slots):
-            self._add_arc(("van", slot), ("taken", slot), ("brought", slot), most)
-        self._add_arc(("bikes",), END, START, most)
+            self._add_arc(("van", slot), ("taken", slot), ("brought", slot), WIDE)
+        self._add_arc(("bikes",), END, START, WIDE)
+
+    def lying(self, name, moment):
+        """The number of the node of what has lain at the stand at this moment."""
+        return self._nodes[self._behind(name, moment)]
+
+    def tail_and_head(self, place):
+        """The numbers of the nodes from which and to which the arc with this place leads."""
+        return (self.heads[2 * place + 1], self.heads[2 * place])
 
     def _node(self, words):
-        """The number of the node that is called by these words."""
+        """The number of the node that is called by these words, which is added if there is none."""
         if words not in self._nodes:
             self._nodes[words] = len(self.edges)
             self.edges.append([])
@@ -64,15 +72,15 @@ class Network:
             self._add_arc(("count", name, moment), self._ahead(name, moment), self._behind(name, moment), size)
         for slot in range(self._slots):
             start, end = self._behind(name, slot), self._ahead(name, slot + 1)
-            self._add_arc(("stay", name, slot), start, end, size)
-            self._add_arc(("left", name, slot), start, ("leaving", name, slot), size)
-            self._add_arc(("came", name, slot), ("coming", name, slot), end, size)
-            self._add_arc(("take", name, slot), start, ("taken", slot), size)
-            self._add_arc(("bring", name, slot), ("brought", slot), end, size)
+            self._add_arc(("stay", name, slot), start, end, WIDE)
+            self._add_arc(("left", name, slot), start, ("leaving", name, slot), WIDE)
+            self._add_arc(("came", name, slot), ("coming", name, slot), end, WIDE)
+            self._add_arc(("take", name, slot), start, ("taken", slot), WIDE)
+            self._add_arc(("bring", name, slot), ("brought", slot), end, WIDE)
 
-    def _add_road(self, start, end, time, size):
+    def _add_road(self, start, end, time):
         for slot in range(self._slots):
             last = slot + time - 1
             # What would come later is under way in the end.
             head = ("coming", end, last) if last < self._slots else END
-            self._add_arc(("rides", start, end, slot), ("leaving", start, slot), head, size)
+            self._add_arc(("rides", start, end, slot), ("leaving", start, slot), head, WIDE)

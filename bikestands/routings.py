@@ -61,6 +61,14 @@ class Routing:
         """How much goes along each arc."""
         return [high - self._rest[2 * place] for place, (_, high) in enumerate(self._limits)]
 
+    def heights(self):
+        """The height of each node; they show that no circulation is cheaper than the one that was found."""
+        return list(self._heights)
+
+    def cut(self):
+        """For each node 0 if what is too much still comes to it, otherwise 1, when there is no circulation."""
+        return [1 if length is None else 0 for length in self._lengths]
+
     def _edge_length(self, node, edge):
         """The length of an edge from this node: its price above the difference of heights, and 1 for itself."""
         price = self._prices[edge] + self._heights[node] - self._heights[self._heads[edge]]

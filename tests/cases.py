@@ -6,7 +6,7 @@ import unittest
 
 class Case(unittest.TestCase):
     def assert_raised(self, kind, attributes, function, *arguments, **named):
-        """Looks at the very class, and at the attributes: at what was given by identity, at others by kind and value."""
+        """Looks at the very class, and at the attributes: by identity at what was given, else by kind and value."""
         with self.assertRaises(Exception) as caught:
             function(*arguments, **named)
         self.assertIs(caught.exception.__class__, kind, caught.exception)

@@ -1,7 +1,6 @@
 """All records of a small town, gone through one by one, with the value of every ask in each of them.
 
-This is told from points 6 to 10 of the document alone, and uses nothing of the program but towns and logs. The names
-of stands in these towns are no words of facts.
+This is told from points 6 to 10 of the document alone, and uses nothing of the program but towns and logs.
 """
 
 import functools
@@ -168,7 +167,7 @@ def random_logs(seed, many_logs, most_facts, offs):
 def taken_apart(fact):
     """The ask of a fact and its bounds; those that it does not have never matter."""
     for word in (" is ", " least ", " most ", " from "):
-        ask, found, numbers = fact.partition(word)
+        ask, found, numbers = fact.rpartition(word)
         if found:
             break
     if word == " from ":

@@ -124,7 +124,8 @@ class ByHand(unittest.TestCase):
         self.assertIs(alike(other=log, one=log), True)
         self.assertEqual(apart(other=log, one=bare), (4, 5))
         self.assertEqual(joined(other=log, one=bare).facts, log.facts)
-        self.assertEqual(joined(other=bare, one=Log(log.town, log.facts[1:2])).facts, FACTS[1:2] + FACTS[:1] + FACTS[2:4])
+        alone = Log(log.town, log.facts[1:2])
+        self.assertEqual(joined(other=bare, one=alone).facts, FACTS[1:2] + FACTS[:1] + FACTS[2:4])
 
     def test_logs_that_are_not_possible(self):
         bad, worse, log = make_impossible(), Log(make_town(), ("bikes is 8",)), make_log()
@@ -137,7 +138,8 @@ class ByHand(unittest.TestCase):
         self.assertIs(alike(log, bad), False)
         self.assertIs(fits(log, within(log, bad)), True)
         self.assertEqual(apart(log, worse), (0,))
-        self.assertEqual(apart(Log(make_town()), Log(make_town(), ("bikes is 8", "bikes most 8", "bikes least 8"))), (0, 2))
+        facts = ("bikes is 8", "bikes most 8", "bikes least 8")
+        self.assertEqual(apart(Log(make_town()), Log(make_town(), facts)), (0, 2))
         self.assertIs(possible(joined(make_slow(), log)), False)
 
     def test_facts_told_otherwise(self):
@@ -146,7 +148,8 @@ class ByHand(unittest.TestCase):
         self.assertIs(alike(one, Log(town, ("bikes is 4",))), True)
         self.assertIs(alike(one, Log(town, ("bikes least 4", "bikes most 4", "bikes most 7", "van 0 least 0"))), True)
         self.assertIs(alike(one, Log(town, ("bikes least 4",))), False)
-        self.assertIs(alike(Log(town), Log(town, ("bikes from 0 to 7", "count hill 1 most 4", "came hill 0 is 0"))), True)
+        nothing = ("bikes from 0 to 7", "count hill 1 most 4", "came hill 0 is 0")
+        self.assertIs(alike(Log(town), Log(town, nothing)), True)
         self.assertEqual(apart(one, Log(town, ("bikes is 4", "bikes is 3", "bikes is 4", "bikes is 3"))), (1, 3))
         self.assertEqual(apart(one, Log(town)), ())
 

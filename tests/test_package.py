@@ -6,7 +6,7 @@ import inspect
 import pathlib
 import unittest
 
-from bikestands import errors, logs, surveys, towns
+from bikestands import console, desks, errors, logs, surveys, towns
 
 FOLDER = pathlib.Path(towns.__file__).parent
 FILES = sorted(FOLDER.glob("*.py"))
@@ -30,6 +30,11 @@ FUNCTIONS = {
         "within": ("one", "other"), "alike": ("one", "other"), "joined": ("one", "other"), "apart": ("one", "other"),
     },
     "mending": {"kept": ("log", "wish"), "mends": ("log", "wishes", "changes")},
+    "checker": {"accepts": ("claim", "certificate")},
+    "certificates": {
+        "certify": ("log",), "certify_most": ("log", "ask"), "certify_least": ("log", "ask"),
+        "certify_reached": ("log", "ask", "word"),
+    },
 }
 
 
@@ -84,6 +89,25 @@ class Interface(unittest.TestCase):
             self.assertIsInstance(own[name], property)
         for name in ("__init__", "__len__", "__bool__"):
             self.assertIn(name, own)
+
+    def test_desk(self):
+        self.assertEqual(desks.Desk.__module__, "bikestands.desks")
+        self.assert_parameters(desks.Desk, ())
+        own = vars(desks.Desk)
+        for name, parameters in (
+            ("remove", ("name",)), ("claim", ("claim",)), ("lift", ("index",)), ("undo", ()), ("trial", ()),
+            ("tried", ("action",)),
+        ):
+            self.assert_parameters(own[name], ("self", *parameters))
+        for name in ("names", "claims", "changes"):
+            self.assertIsInstance(own[name], property)
+        for name in ("__init__", "__getitem__", "__setitem__", "__contains__", "__iter__", "__len__", "__bool__"):
+            self.assertIn(name, own)
+
+    def test_console(self):
+        self.assertEqual(console.Console.__module__, "bikestands.console")
+        self.assert_parameters(console.Console, ())
+        self.assert_parameters(vars(console.Console)["say"], ("self", "line"))
 
     def test_functions(self):
         for file, functions in FUNCTIONS.items():

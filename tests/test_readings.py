@@ -215,7 +215,7 @@ class Wrong(Case):
         for wrong in no_readings():
             for at in range(6):
                 cases.append(((*right[:at], wrong, *right[at + 1:]), at))
-            cases += [((wrong,), 0), ((wrong, wrong), 0), ((*right, wrong), 6), ((*right[:4], wrong, wrong, "bikes"), 4)]
+            cases += [((wrong,), 0), ((wrong, wrong), 0), ((*right, wrong), 6), ((*right[:4], wrong, wrong), 4)]
         cases += [((*right, "bikes"), 6), (("bikes",) * 7, 6), (("bikes",) * 100, 6), ((right,), 0), (((),), 0)]
         for function in (best_reading, settled):
             for log in (make_log(), make_slow(), make_impossible()):
