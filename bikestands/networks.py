@@ -7,7 +7,7 @@ An arc is called by words. Those of a plain ask, as `read_ask` tells it, call th
 START = ("start",)
 END = ("end",)
 # The cap of an arc that has none: all that facts call for, brought along one arc, is less.
-WIDE = 10 ** 6
+WIDE = 1000000
 
 
 class Network:

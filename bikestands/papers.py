@@ -68,7 +68,7 @@ class Papers:
                 caps.append((self._town.names.index(name), moment, weight))
             else:
                 weights.append((index, "most", weight))
-        return (tuple(sorted(weights)), tuple(sorted(caps)), self._heights(heights))
+        return (tuple(sorted(weights)), tuple(sorted(caps)), self._stand_heights(heights))
 
     def _low_index(self, words):
         """The index of the fact that gives the arc with these words its low bound."""
@@ -83,7 +83,7 @@ class Papers:
         high = self._limits[place][1]
         return bounds.index(high) if high in bounds else None
 
-    def _heights(self, heights):
+    def _stand_heights(self, heights):
         """For each stand its height at each moment, 0 at the last one, in which bikes end."""
         moments = range(self._town.slots + 1)
         rows = []
