@@ -98,8 +98,8 @@ def read_part(kind, part):
 def read_parts(form, line):
     """What the line tells in the places of the words in large letters; None if it is not of this form."""
     kinds = form.split(" ")
-    # A text has all that is left, whatever spaces it has.
-    parts = line.split(" ", len(kinds) - 1) if kinds[-1] == "TEXT" else line.split(" ")
+    # The last part has all that is left: a text may have spaces, while other parts with a space cannot stand there.
+    parts = line.split(" ", len(kinds) - 1)
     if len(parts) != len(kinds):
         return None
     told = [read_part(kind, part) for kind, part in zip(kinds, parts)]

@@ -20,28 +20,25 @@ class Papers:
         self._facts = told_facts(log)
         self._network = Network(log.town)
         self._limits = narrowed(self._network, self._facts)
+        self._free = [0] * len(self._limits)
 
     def end_paper(self, ask, price):
         """The paper for the least value of the ask (price 1), or the greatest one (price -1), if some record fits."""
         prices = priced(self._network, plain_asks(self._town, ask), price)
-        routing = self._routing(prices)
+        routing = Routing(self._network, self._limits, prices, self._free)
         routing.run()
         return self._strained(prices, routing.heights())
 
     def clash_paper(self):
         """The paper that shows that no record fits, if none does."""
-        free = priced(self._network, [], 0)
         for words, place in self._network.places.items():
             low, high = self._limits[place]
             if low > high:
                 flat = [0] * len(self._network.edges)
                 return self._written([(words, 1)], [(words, 1)], flat)
-        routing = self._routing(free)
+        routing = Routing(self._network, self._limits, self._free, self._free)
         routing.run()
-        return self._strained(free, routing.cut())
-
-    def _routing(self, prices):
-        return Routing(self._network, self._limits, prices, priced(self._network, [], 0))
+        return self._strained(self._free, routing.cut())
 
     def _strained(self, prices, heights):
         """The paper with weights by the strains, for these heights of all nodes."""

@@ -640,6 +640,10 @@ class Objects(DeskCase):
             desk["one"] = Log(make_town())
         self.assertIs(caught.exception.shown.__class__, tuple)
 
+    def test_a_desk_is_not_gone_through(self):
+        with self.assertRaises(TypeError):
+            list(make_desk())
+
     def test_properties_cannot_be_set(self):
         for name in ("names", "claims", "changes"):
             with self.assertRaises(AttributeError):
